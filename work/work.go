@@ -41,6 +41,11 @@ func (w *Work) Wipe(block int) bool {
 	return w.keep(store.Wipe(w.Store, block))
 }
 
+// Join: a mask; false, if it went down by that.
+func (w *Work) Join(m uint32) bool {
+	return w.keep(store.Join(w.Store, m))
+}
+
 // Put: a block's data; false, if it went down by that.
 func (w *Work) Put(block int, data string) bool {
 	return w.keep(store.Put(w.Store, block, data))
@@ -57,6 +62,11 @@ func (w *Work) Send(p api.Packet) {
 	// It may be, whatever its session, so it can't be refused.
 	b, _ := packet.Encode(p)
 	w.Outs = append(w.Outs, api.Out{Kind: api.OutPacket, Node: w.Id, Data: b})
+}
+
+// Close: it wants the session to end.
+func (w *Work) Close() {
+	w.Outs = append(w.Outs, api.Out{Kind: api.OutClose, Node: w.Id})
 }
 
 // keep: what a call of the store answered; false, if it went down by that.

@@ -51,6 +51,8 @@ func TestKeeps(t *testing.T) {
 		"commit": {func(w *work.Work) bool { return w.Commit(b) }, func(s api.Store) (api.Store, api.Errno) { return store.Commit(s, b) }, 2},
 		"mark":   {func(w *work.Work) bool { return w.Wipe(1) && w.Mark(1) }, markedAgain, 3},
 		"wipe":   {func(w *work.Work) bool { return w.Wipe(1) }, func(s api.Store) (api.Store, api.Errno) { return store.Wipe(s, 1) }, 1},
+		"join":   {func(w *work.Work) bool { return w.Wipe(0) && w.Join(3) }, joinedAgain, 3},
+		"joined": {func(w *work.Work) bool { return w.Join(2) }, func(s api.Store) (api.Store, api.Errno) { return store.Join(s, 2) }, 0},
 		"put":    {func(w *work.Work) bool { return w.Put(1, data) }, func(s api.Store) (api.Store, api.Errno) { return store.Put(s, 1, data) }, 2},
 	} {
 		for fuse := range 5 {
@@ -87,14 +89,24 @@ func markedAgain(s api.Store) (api.Store, api.Errno) {
 	return store.Mark(s, 1)
 }
 
+// joinedAgain is a store whose block 0 was wiped, and that then joined both.
+func joinedAgain(s api.Store) (api.Store, api.Errno) {
+	s, e := store.Wipe(s, 0)
+	if e != api.OK {
+		return s, e
+	}
+	return store.Join(s, 3)
+}
+
 // P16.1: outputs come one behind the other, of the node's Id; packets are of its session, whatever they say.
 func TestOuts(t *testing.T) {
 	w := upOf(t)
 	w.Send(api.Packet{Kind: api.PkAck, Block: 1})
 	w.Reply(-6, api.OK, "")
+	w.Close()
 	w.Send(api.Packet{Kind: api.PkEnd, Session: 9})
-	want := []api.Out{{Kind: api.OutReply, Node: 1, Id: 5, Err: api.ErrBusy, Data: "x"}, {Kind: api.OutPacket, Node: 1}, {Kind: api.OutReply, Node: 1, Id: -6}, {Kind: api.OutPacket, Node: 1}}
-	for i, p := range map[int]api.Packet{1: {Kind: api.PkAck, Session: 4, Block: 1}, 3: {Kind: api.PkEnd, Session: 4}} {
+	want := []api.Out{{Kind: api.OutReply, Node: 1, Id: 5, Err: api.ErrBusy, Data: "x"}, {Kind: api.OutPacket, Node: 1}, {Kind: api.OutReply, Node: 1, Id: -6}, {Kind: api.OutClose, Node: 1}, {Kind: api.OutPacket, Node: 1}}
+	for i, p := range map[int]api.Packet{1: {Kind: api.PkAck, Session: 4, Block: 1}, 4: {Kind: api.PkEnd, Session: 4}} {
 		b, e := packet.Encode(p)
 		if e != api.OK {
 			t.Fatal(e)
